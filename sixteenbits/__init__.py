@@ -1,0 +1,1 @@
+"""The 65816, whole: sixteenbits.machine.answers(calls) answers a list of calls on one machine."""
