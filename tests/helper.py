@@ -41,6 +41,12 @@ def split(told):
     return each
 
 
+def same(told, asked):
+    """Long lists are told apart without the comparison that unittest prints, which takes minutes for them."""
+    if told != asked:
+        raise AssertionError("long lists differ")
+
+
 def told_by(*calls):
     """What each of the calls answers behind a cpu_begin, whose own answer is left out."""
     return split(answers(joined(BEGIN, *calls)))[1:]

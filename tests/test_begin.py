@@ -4,7 +4,7 @@ import unittest
 
 from sixteenbits.cpu import Cpu
 from sixteenbits.machine import answers, cpu_begin
-from tests.helper import BEGIN, MEMORY, ask, load, look, told_by
+from tests.helper import BEGIN, MEMORY, ask, load, look, same, told_by
 
 
 def state(cpu):
@@ -27,15 +27,13 @@ class BeginTest(unittest.TestCase):
     def test_memory_is_0(self):
         for at in (0, 1, 255, 256, 65535, 65536, 0xFFFC, MEMORY // 2, MEMORY - 65536):
             n = min(65536, MEMORY - at)
-            self.assertEqual(told_by(look(at, n)), [[0] + [0] * n])
+            same(told_by(look(at, n)), [[0] + [0] * n])
 
     def test_all_of_memory_is_0(self):
-        zeros = [0] * 65537
         # Two lists, as the answers of one are at most 10000000 numbers.
         for half in (range(128), range(128, 256)):
             told = told_by(*[look(bank * 65536, 65536) for bank in half])
-            self.assertTrue(all(answer == zeros for answer in told))
-            self.assertEqual(len(told), 128)
+            same(told, [[0] * 65537] * 128)
 
     def test_registers(self):
         self.assertEqual(state(Cpu()), NEW_STATE)

@@ -4,7 +4,7 @@ import unittest
 
 from sixteenbits.cpu import Cpu
 from sixteenbits.machine import answers, cpu_load, cpu_look
-from tests.helper import BEGIN, GREATEST, MEMORY, joined, load, load_without_list, look, told_by
+from tests.helper import BEGIN, GREATEST, MEMORY, joined, load, load_without_list, look, same, told_by
 
 
 class LoadAndLookTest(unittest.TestCase):
@@ -33,7 +33,7 @@ class LoadAndLookTest(unittest.TestCase):
     def test_as_many_bytes_as_may_be_handed_in(self):
         data = [number * 7 % 256 for number in range(29000)]
         told = told_by(load(65000, data), look(64999, 29002))
-        self.assertEqual(told, [[0], [0, 0] + data + [0]])
+        same(told, [[0], [0, 0] + data + [0]])
 
     def test_no_bytes(self):
         for at in (0, 500, MEMORY - 1, MEMORY):
@@ -48,13 +48,13 @@ class LoadAndLookTest(unittest.TestCase):
 class SizeTest(unittest.TestCase):
     def test_look_65536(self):
         told = told_by(load(70000, [3] * 20000), look(65000, 65536))
-        self.assertEqual(told[1], [0] + [0] * 5000 + [3] * 20000 + [0] * 40536)
+        same(told[1], [0] + [0] * 5000 + [3] * 20000 + [0] * 40536)
 
     def test_load_65536(self):
         data = [number % 251 for number in range(65536)]
         cpu = Cpu()
         self.assertEqual(cpu_load(cpu, 12345, 65536, [data]), [0])
-        self.assertEqual(cpu_look(cpu, 12345, 65536), [0] + data)
+        same(cpu_look(cpu, 12345, 65536), [0] + data)
         self.assertEqual(cpu_look(cpu, 12344, 1) + cpu_look(cpu, 12345 + 65536, 1), [0, 0, 0, 0])
 
     def test_above_65536_is_refused(self):
@@ -74,7 +74,7 @@ class EndOfMemoryTest(unittest.TestCase):
 
     def test_just_to_the_end(self):
         self.assertEqual(told_by(load(MEMORY - 3, [1, 2, 3]), look(MEMORY - 4, 4)), [[0], [0, 0, 1, 2, 3]])
-        self.assertEqual(told_by(look(MEMORY - 65536, 65536)), [[0] * 65537])
+        same(told_by(look(MEMORY - 65536, 65536)), [[0] * 65537])
 
     def test_one_beyond_the_end(self):
         told = told_by(
@@ -87,7 +87,7 @@ class EndOfMemoryTest(unittest.TestCase):
         self.assertEqual(told_by(look(MEMORY - 65535, 65536)), [[-1]])
         cpu = Cpu()
         self.assertEqual(cpu_load(cpu, MEMORY - 65535, 65536, [[1] * 65536]), [-1])
-        self.assertEqual(cpu_look(cpu, MEMORY - 65535, 65535), [0] * 65536)
+        same(cpu_look(cpu, MEMORY - 65535, 65535), [0] * 65536)
 
     def test_behind_memory(self):
         for at in (MEMORY, MEMORY + 1, MEMORY + 500, 2 * MEMORY, 2 ** 31, 2 ** 32 - MEMORY, GREATEST):
