@@ -1,29 +1,35 @@
-"""The machine's memory: 2^24 bytes, all 0 to begin with."""
+"""The machine's memory: 2^24 bytes in 256 banks, all 0 to begin with."""
 
 MEMORY_SIZE = 16777216
-PAGE_SIZE = 256
+BANK_SIZE = 65536
+BANK_COUNT = 256
 
 
 class Memory:
     """Bytes by their place."""
 
     def __init__(self):
-        # A page is made when it is first written: making all of memory for each cpu_begin would take long.
-        self.pages = {}
+        # All banks are one list until they are written: making all of memory for each cpu_begin would take long.
+        self.banks = [[0] * BANK_SIZE] * BANK_COUNT
+        self.written = [False] * BANK_COUNT
+        # The stack's bank can so be written without asking first.
+        self.make_bank(0)
+
+    def make_bank(self, bank):
+        """Gives a bank a list of its own, to be written."""
+        self.banks[bank] = [0] * BANK_SIZE
+        self.written[bank] = True
 
     def tell(self, at):
         """The byte at a place."""
-        page = self.pages.get(at // PAGE_SIZE)
-        if page is None:
-            return 0
-        return page[at % PAGE_SIZE]
+        return self.banks[at >> 16][at & 65535]
 
     def put(self, at, byte):
         """Writes a byte at a place."""
-        number = at // PAGE_SIZE
-        if number not in self.pages:
-            self.pages[number] = [0] * PAGE_SIZE
-        self.pages[number][at % PAGE_SIZE] = byte
+        bank = at >> 16
+        if not self.written[bank]:
+            self.make_bank(bank)
+        self.banks[bank][at & 65535] = byte
 
     def tell_many(self, at, n):
         """The n bytes from a place on."""

@@ -1,40 +1,25 @@
-"""Promise 3: cpu_ask."""
+"""Promise 3: cpu_ask. What an interrupt that was asked for does is told in test_steps."""
 
 import unittest
 
-from sixteenbits.cpu import Cpu
-from sixteenbits.machine import answers, cpu_ask
-from tests.helper import BEGIN, GREATEST, MEMORY, ask, joined, load, look, told_by
+from sixteenbits.machine import answers
+from tests.helper import BEGIN, GET_ALL, GREATEST, MEMORY, REGISTERS, ask, get, joined, load, look, put, put_all, run
+from tests.helper import told_by
 
 NOT_ASKED = (4, 5, 255, 256, 257, 65536, 2 ** 24, 2 ** 31, 2 ** 32 - 4, GREATEST)
+NOP, WAI, STP, CLI = 0xEA, 0xCB, 0xDB, 0x58
+
+# A machine out of emulation, with nothing left as cpu_begin made it.
+USED = {
+    "e": 0, "flags": 128 + 64 + 8 + 2 + 1, "a": 0xABCD, "x": 0x1234, "y": 0x5678, "d": 0x9ABC, "s": 0xDEF0,
+    "pc": 0x1111, "pb": 0x22, "db": 0x33}
+MAKE_USED = joined(
+    put_all(**USED), load(0xFFFB, [0x01, 0x78, 0x56, 0x02]), load(0x22FFFC, [0x44, 0x55]), load(0x33FFFC, [0x66, 0x77]))
 
 
-def used_cpu():
-    """A machine out of emulation, with nothing left as cpu_begin made it."""
-    cpu = Cpu()
-    cpu.emulation = False
-    cpu.a = 0xABCD
-    cpu.x = 0x1234
-    cpu.y = 0x5678
-    cpu.d = 0x9ABC
-    cpu.s = 0xDEF0
-    cpu.pc = 0x1111
-    cpu.pb = 0x22
-    cpu.db = 0x33
-    cpu.flags = 128 + 64 + 8 + 2 + 1
-    cpu.waiting = True
-    cpu.stopped = True
-    cpu.nmi_asked = True
-    cpu.irq_asked = True
-    cpu.memory.put_many(0xFFFB, [0x01, 0x78, 0x56, 0x02])
-    cpu.memory.put_many(0x22FFFC, [0x44, 0x55])
-    return cpu
-
-
-def state(cpu):
-    kept = dict(vars(cpu))
-    kept["memory"] = {number: list(page) for number, page in cpu.memory.pages.items()}
-    return kept
+def registers(*calls):
+    told = told_by(*calls, GET_ALL)[-10:]
+    return dict(zip(REGISTERS, [answer[0] for answer in told]))
 
 
 class AnswerTest(unittest.TestCase):
@@ -51,9 +36,9 @@ class AnswerTest(unittest.TestCase):
 
     def test_others_do_nothing(self):
         for k in NOT_ASKED:
-            cpu = used_cpu()
-            self.assertEqual(cpu_ask(cpu, k), [-1])
-            self.assertEqual(state(cpu), state(used_cpu()))
+            self.assertEqual(registers(MAKE_USED, ask(k)), USED)
+            told = told_by(put("flags", 0), load(0, [NOP]), ask(k), run(1), get("pc"), get("s"))
+            self.assertEqual(told[2:], [[-1], [1], [1], [0x1FF]])
 
     def test_memory_stays(self):
         places = (0, 0xFFF8, 65535, MEMORY - 8)
@@ -63,70 +48,60 @@ class AnswerTest(unittest.TestCase):
             told = told_by(*loads, *looks, ask(k), *looks)
             self.assertEqual(told[4:8], told[9:])
 
-
-class InterruptTest(unittest.TestCase):
-    def changed_by(self, k, **before):
-        cpu = used_cpu()
-        for name, value in before.items():
-            setattr(cpu, name, value)
-        was = state(cpu)
-        self.assertEqual(cpu_ask(cpu, k), [0])
-        now = state(cpu)
-        return {name: now[name] for name in now if now[name] != was[name]}
-
-    def test_nmi(self):
-        self.assertEqual(self.changed_by(1, nmi_asked=False), {"nmi_asked": True})
-        self.assertEqual(self.changed_by(1, nmi_asked=True), {})
-
-    def test_irq(self):
-        self.assertEqual(self.changed_by(2, irq_asked=False), {"irq_asked": True})
-        self.assertEqual(self.changed_by(2, irq_asked=True), {})
-
-    def test_irq_no_more(self):
-        self.assertEqual(self.changed_by(3, irq_asked=True), {"irq_asked": False})
-        self.assertEqual(self.changed_by(3, irq_asked=False), {})
+    def test_asking_for_an_interrupt_changes_no_register(self):
+        for k in (1, 2, 3):
+            self.assertEqual(registers(MAKE_USED, ask(k)), USED)
 
 
 class ResetTest(unittest.TestCase):
-    def test_state(self):
-        cpu = used_cpu()
-        self.assertEqual(cpu_ask(cpu, 0), [0])
-        asked = state(used_cpu())
-        asked.update({
-            "emulation": True, "x": 0x34, "y": 0x78, "s": 0x1F0, "d": 0, "db": 0, "pb": 0, "pc": 0x5678,
-            "flags": 128 + 64 + 32 + 16 + 4 + 2 + 1,
-            "waiting": False, "stopped": False, "nmi_asked": False})
-        self.assertEqual(state(cpu), asked)
+    def test_registers(self):
+        self.assertEqual(registers(MAKE_USED, ask(0)), {
+            "e": 1, "flags": 128 + 64 + 32 + 16 + 4 + 2 + 1, "a": 0xABCD, "x": 0x34, "y": 0x78, "d": 0, "s": 0x1F0,
+            "pc": 0x5678, "pb": 0, "db": 0})
 
     def test_only_i_and_d_change_in_emulation(self):
         for flags in range(256):
-            cpu = Cpu()
-            cpu.flags = flags | 48
-            cpu_ask(cpu, 0)
-            self.assertEqual(cpu.flags, (flags | 48 | 4) & 0xF7)
+            now = registers(put("flags", flags), ask(0))
+            self.assertEqual(now["flags"], (flags | 32 | 16 | 4) & 0xF7)
+
+    def test_flags_out_of_emulation(self):
+        for flags in range(256):
+            now = registers(put("e", 0), put("flags", flags), ask(0))
+            self.assertEqual((now["flags"], now["e"]), ((flags | 32 | 16 | 4) & 0xF7, 1))
 
     def test_s_stays_where_it_may_be(self):
         for s in (256, 300, 511):
-            cpu = Cpu()
-            cpu.s = s
-            cpu_ask(cpu, 0)
-            self.assertEqual(cpu.s, s)
+            self.assertEqual(registers(put("s", s), ask(0))["s"], s)
 
     def test_s_keeps_its_lower_byte(self):
         for s, asked in ((0, 256), (255, 511), (512, 256), (65535, 511)):
-            cpu = used_cpu()
-            cpu.s = s
-            cpu_ask(cpu, 0)
-            self.assertEqual(cpu.s, asked)
-
-    def test_an_irq_not_asked_for_stays_so(self):
-        cpu = Cpu()
-        cpu_ask(cpu, 0)
-        self.assertFalse(cpu.irq_asked)
+            self.assertEqual(registers(put("e", 0), put("s", s), ask(0))["s"], asked)
 
     def test_on_at_the_vector_with_the_lower_byte_first(self):
         for low, high in ((0, 0), (1, 0), (0, 1), (255, 255), (0x34, 0x12)):
-            cpu = Cpu()
-            cpu.memory.put_many(0xFFFC, [low, high])
-            cpu_ask(cpu, 0)
-            self.assertEqual(cpu.pc, low + 256 * high)
+            self.assertEqual(registers(load(0xFFFC, [low, high]), ask(0))["pc"], low + 256 * high)
+
+    def test_it_runs_on_there(self):
+        told = told_by(load(0xFFFC, [0x00, 0x40]), load(0x4000, [0xE8, 0xE8]), ask(0), run(2), get("x"), get("pc"))
+        self.assertEqual(told[3:], [[2], [2], [0x4002]])
+
+    def test_not_waiting_and_not_stopped(self):
+        for first in (WAI, STP):
+            told = told_by(
+                load(0xFFFC, [0x00, 0x40]), load(0x4000, [NOP, NOP]), load(0, [first]),
+                run(5), ask(0), run(2), get("pc"))
+            self.assertEqual(told[3:], [[1], [0], [2], [0x4002]])
+
+    def test_nmi_is_not_asked_for_any_more(self):
+        told = told_by(load(0xFFFC, [0x00, 0x40]), load(0x4000, [NOP, NOP]), ask(1), ask(0), run(2), get("pc"))
+        self.assertEqual(told[4:], [[2], [0x4002]])
+
+    def test_an_irq_stays_asked_for(self):
+        for k, pc in ((2, 0x5000), (3, 0x4002)):
+            told = told_by(
+                load(0xFFFC, [0x00, 0x40, 0x00, 0x50]), load(0x4000, [CLI, NOP]), ask(k), ask(0), run(2), get("pc"))
+            self.assertEqual(told[4:], [[2], [pc]])
+
+
+if __name__ == "__main__":
+    unittest.main()

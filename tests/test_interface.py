@@ -6,7 +6,7 @@ import sys
 import unittest
 
 from sixteenbits.machine import UnknownCall, answers
-from tests.helper import BEGIN, GREATEST, MEMORY, ask, joined, load, load_without_list, look, split
+from tests.helper import BEGIN, GREATEST, MEMORY, WHY, ask, get, joined, load, load_without_list, look, put, run, split
 
 
 class Untouched(list):
@@ -22,11 +22,16 @@ class Untouched(list):
 MIXED = joined(
     BEGIN, load(10, [1, 2, 3]), look(9, 5), load_without_list(0, 65537), look(MEMORY, 1), look(0, 0),
     ask(0), ask(4), load_without_list(7, 0), BEGIN, look(10, 1), ask(1), ask(2), ask(3),
-    load(MEMORY - 1, [4, 4]), look(MEMORY - 1, 1), ask(GREATEST))
+    load(MEMORY - 1, [4, 4]), look(MEMORY - 1, 1), ask(GREATEST),
+    # INX, INX, PHX, STP.
+    BEGIN, load(0x300, [0xE8, 0xE8, 0xDA, 0xDB]), put(5, 0x10300), WHY, run(9), WHY, get(1), get(4), get(10),
+    put(10, 1), run(10000001), look(0x1FE, 2), run(0), WHY, get(9), get(8))
 MIXED_ANSWERS = [
     1, 0, 1, 0, 6, 0, 0, 1, 2, 3, 0, 1, -1, 1, -1, 1, 0,
     1, 0, 1, -1, 1, 0, 1, 0, 2, 0, 0, 1, 0, 1, 0, 1, 0,
-    1, -1, 2, 0, 0, 1, -1]
+    1, -1, 2, 0, 0, 1, -1,
+    1, 0, 1, 0, 1, 0, 1, 0, 1, 4, 1, 2, 1, 2, 1, 0x1FE, 1, -1,
+    1, -1, 1, -1, 3, 0, 0, 2, 1, 0, 1, 0, 1, 1, 1, 52]
 
 
 class InterfaceTest(unittest.TestCase):
@@ -58,12 +63,14 @@ class InterfaceTest(unittest.TestCase):
         self.assertEqual(answers(list(MIXED)), MIXED_ANSWERS)
 
     def test_nothing_is_kept(self):
-        reads = joined(BEGIN, look(10, 3), look(0xFFFC, 2))
-        writes = joined(BEGIN, load(10, [1, 2, 3]), load(0xFFFC, [4, 5]), ask(1), ask(2))
+        reads = joined(BEGIN, look(10, 3), look(0xFFFC, 2), WHY, get(0), get(5))
+        writes = joined(
+            BEGIN, load(10, [1, 2, 3]), load(0xFFFC, [4, 5]), put(0, 9), put(5, 500), load(500, [0xDB]), run(5), WHY,
+            ask(1), ask(2))
         first = answers(reads)
         answers(writes)
         self.assertEqual(answers(reads), first)
-        self.assertEqual(first, [1, 0, 4, 0, 0, 0, 0, 3, 0, 0, 0])
+        self.assertEqual(first, [1, 0, 4, 0, 0, 0, 0, 3, 0, 0, 0, 1, 0, 1, 0, 1, 0])
         self.assertEqual(answers(writes), answers(writes))
 
     def test_nothing_is_printed_or_imported(self):
@@ -83,6 +90,14 @@ class InterfaceTest(unittest.TestCase):
     def test_as_many_answers_as_may_be(self):
         told = answers(joined(BEGIN, *[look(0, 65536)] * 152))
         self.assertEqual(len(told), 2 + 152 * 65538)
+
+    def test_as_many_numbers_as_may_be(self):
+        # 29000 bytes of INX, and whatever calls fill the list up.
+        calls = joined(BEGIN, put(9, 0), put(8, 0), load(0, [0xE8] * 29000), run(29000), get(1))
+        calls += joined(*[get(1)] * ((30000 - len(calls)) // 4))
+        told = split(answers(calls))
+        self.assertLessEqual(len(told), 300)
+        self.assertEqual(told[4:], [[29000]] * (len(told) - 4))
 
     def test_an_unknown_call_is_not_answered(self):
         with self.assertRaises(UnknownCall):

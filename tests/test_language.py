@@ -53,6 +53,21 @@ def bound_names(tree):
     return names
 
 
+def top_names(tree):
+    """All names that are bound at a file's top but by imports."""
+    names = []
+    for node in tree.body:
+        if isinstance(node, (ast.FunctionDef, ast.ClassDef)):
+            names.append(node.name)
+        elif isinstance(node, ast.Assign):
+            names.append(node.targets[0].id)
+    return names
+
+
+def stored(node):
+    return isinstance(node, ast.Name) and isinstance(node.ctx, ast.Store)
+
+
 class LanguageTest(unittest.TestCase):
     def each_node(self, *kinds):
         for path, tree in trees():
@@ -79,7 +94,10 @@ class LanguageTest(unittest.TestCase):
         for node, where in self.each_node(ast.FunctionDef):
             self.assertLessEqual(node.end_lineno - node.lineno + 1, 40, where)
             self.assertFalse(node.decorator_list, where)
-            self.assertFalse(node.args.vararg or node.args.kwarg or node.args.kwonlyargs or node.args.posonlyargs, where)
+            given = node.args
+            self.assertFalse(given.vararg or given.kwarg or given.kwonlyargs or given.posonlyargs, where)
+            self.assertIsNone(node.returns, where)
+            self.assertFalse([part for part in given.args if part.annotation], where)
 
     def test_classes(self):
         for node, where in self.each_node(ast.ClassDef):
@@ -91,6 +109,61 @@ class LanguageTest(unittest.TestCase):
             self.assertIsInstance(node, ast.ImportFrom, where)
             self.assertEqual(node.level, 0, where)
             self.assertEqual(node.module.split(".")[0], "sixteenbits", where)
+
+    def test_no_files_draw_from_one_another(self):
+        drawn = {}
+        for path, tree in trees():
+            drawn[f"sixteenbits.{path.stem}"] = [
+                node.module for node in ast.walk(tree) if isinstance(node, ast.ImportFrom)]
+        while drawn:
+            free = [name for name in drawn if not any(other in drawn for other in drawn[name])]
+            self.assertTrue(free, f"in a ring: {sorted(drawn)}")
+            for name in free:
+                del drawn[name]
+
+    def test_names_are_drawn_from_where_they_are_defined(self):
+        defined = {f"sixteenbits.{path.stem}": top_names(tree) for path, tree in trees()}
+        for node, where in self.each_node(ast.ImportFrom):
+            for part in node.names:
+                self.assertIn(part.name, defined[node.module], where)
+                self.assertIsNone(part.asname, where)
+
+    def test_the_top_of_a_file(self):
+        for path, tree in trees():
+            self.assertIsInstance(tree.body[0].value.value, str, path)
+            for node in tree.body[1:]:
+                where = f"{path.name}:{node.lineno}"
+                self.assertIsInstance(node, (ast.ImportFrom, ast.FunctionDef, ast.ClassDef, ast.Assign), where)
+                if isinstance(node, ast.Assign):
+                    self.assert_plain(node.value, where)
+            names = top_names(tree)
+            self.assertEqual(len(names), len(set(names)), path)
+
+    def assert_plain(self, value, where):
+        """A number, a text, or a list, tuple or dict of these and of functions, with no list or dict within."""
+        parts = [value]
+        if isinstance(value, (ast.List, ast.Tuple)):
+            parts = value.elts
+        if isinstance(value, ast.Dict):
+            parts = value.keys + value.values
+        for part in parts:
+            if isinstance(part, ast.UnaryOp) and isinstance(part.op, ast.USub):
+                part = part.operand
+            self.assertIsInstance(part, (ast.Constant, ast.Name), where)
+
+    def test_is(self):
+        for node, where in self.each_node(ast.Compare):
+            for operator, other in zip(node.ops, node.comparators):
+                if isinstance(operator, (ast.Is, ast.IsNot)):
+                    self.assertIn(getattr(other, "value", 0), (None, True, False), where)
+
+    def test_locals_are_not_called_like_imports(self):
+        for path, tree in trees():
+            drawn = [part.name for node in ast.walk(tree) if isinstance(node, ast.ImportFrom) for part in node.names]
+            classes = [node.name for node in tree.body if isinstance(node, ast.ClassDef)]
+            for node in ast.walk(tree):
+                name = getattr(node, "arg", None) or (node.id if stored(node) else None)
+                self.assertNotIn(name, drawn + classes, f"{path.name}:{getattr(node, 'lineno', 0)}")
 
     def test_statements(self):
         for node, where in self.each_node(ast.stmt):
